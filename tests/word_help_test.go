@@ -247,17 +247,26 @@ func wordsBad() map[string]impl.Word {
 				}
 			}
 		}
-		for what, list := range blkBad() {
-			w := from
-			w.Pieces = list
-			out[name+": pieces: "+what] = w
-		}
-		for what, list := range lastBad() {
-			w := from
-			w.Last = list
-			out[name+": last: "+what] = w
+		for what, w := range wordListsBad(from) {
+			out[name+": "+what] = w
 		}
 	}
 	out["nothing"] = impl.Word{}
+	return out
+}
+
+// wordListsBad is a word with a list that is not ok, each by one thing alone.
+func wordListsBad(w impl.Word) map[string]impl.Word {
+	out := map[string]impl.Word{}
+	for what, list := range blkBad() {
+		bad := w
+		bad.Pieces = list
+		out["pieces: "+what] = bad
+	}
+	for what, list := range lastBad() {
+		bad := w
+		bad.Last = list
+		out["last: "+what] = bad
+	}
 	return out
 }
