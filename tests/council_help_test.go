@@ -98,7 +98,7 @@ func councilMay(c impl.SynCouncil, e impl.SynEvent) bool {
 	who := e.Who == 0 || e.Who == 1 || e.Who == 2
 	switch e.Kind {
 	case 1:
-		return who && e.Slot >= 1 && e.Slot <= 60 && seekCmdGood(e.Cmd)
+		return who && c.Rounds[e.Who] < 12498 && e.Slot >= 1 && e.Slot <= 60 && seekCmdGood(e.Cmd)
 	case 2, 3:
 		return e.Word >= 0 && e.Word < len(c.Radio)
 	case 4:
@@ -119,9 +119,7 @@ func councilDone(c impl.SynCouncil, e impl.SynEvent) (impl.SynCouncil, bool) {
 	var sent []impl.Word
 	switch e.Kind {
 	case 1:
-		if after.Rounds[e.Who] < 12498 {
-			after.Rounds[e.Who]++
-		}
+		after.Rounds[e.Who]++
 		after.Seekers[e.Who], sent = seekBegun(e.Who, after.Rounds[e.Who], e.Slot, e.Cmd)
 	case 2:
 		sent = councilHeard(&after, c.Radio[e.Word])

@@ -140,7 +140,7 @@ func TestP21WithToldFull(t *testing.T) {
 	}
 }
 
-// P21 with rounds near 9000, and near the greatest: there a ballot that was used is used again, and denied, and so is one that is below what was promised.
+// P21 with rounds near 9000, and up to the last one; in that one nobody begins any more: the words are lost, and nothing else happens.
 func TestP21NearTheGreatestRounds(t *testing.T) {
 	for _, round := range []int{8990, 8999, 12490, 12497} {
 		c := councilWith(councilNew(), func(c *impl.SynCouncil) { c.Rounds = []int{round, round, round} })
@@ -151,16 +151,45 @@ func TestP21NearTheGreatestRounds(t *testing.T) {
 	if c.Rounds[1] != 12498 || c.Voters[0].Promised != 99985 {
 		t.Errorf("%v %v", c.Rounds, c.Voters)
 	}
-	for who := range 2 {
-		after, ok := impl.SynCalm(c, who, 2, voteCmd(2))
-		want := councilWith(c, func(c *impl.SynCouncil) {
-			c.Seekers[who] = impl.SynSeeker{Slot: 2, Ballot: 99984 + who, Phase: 1, Mine: voteCmd(2)}
-		})
-		if ok || !councilSame(after, want) {
-			t.Errorf("%d: %+v %v, not %+v", who, after, ok, want)
+	some := councilWith(councilSome(), func(c *impl.SynCouncil) { c.Rounds = []int{12498, 12498, 12498} })
+	for _, c := range []impl.SynCouncil{c, some, councilFull(some, 60), councilWith(councilNew(), func(c *impl.SynCouncil) { c.Rounds = []int{12498, 12498, 12498} })} {
+		for who := range 3 {
+			for slot := 1; slot <= 2; slot++ {
+				after, ok := impl.SynCalm(c, who, slot, voteCmd(2))
+				if want := councilWith(c, func(c *impl.SynCouncil) { c.Radio = nil }); ok || !councilSame(after, want) {
+					t.Errorf("%d: %+v %v, not %+v", who, after, ok, want)
+				}
+			}
 		}
 	}
-	councilCalms(t, "above the greatest", c, 2, 1, voteCmd(2), voteCmd(1))
+}
+
+// A calm that comes to the last round, and finds nothing in it, ends there: by its own rounds, or by a denial.
+func TestP21WhereTheRoundsEnd(t *testing.T) {
+	for _, round := range []int{12494, 12495, 12496, 12497} {
+		c := councilWith(councilNew(), func(c *impl.SynCouncil) {
+			c.Rounds[0], c.Voters[1].Promised, c.Voters[2].Promised = round, 99999, 99999
+		})
+		after, ok := impl.SynCalm(c, 0, 5, voteCmd(1))
+		want := councilWith(c, func(c *impl.SynCouncil) {
+			c.Rounds[0], c.Voters[0].Promised = 12498, 99984
+			c.Seekers[0] = impl.SynSeeker{Slot: 5, Ballot: 99984, Phase: 1, Mine: voteCmd(1), Yes: []int{0}}
+		})
+		if ok || !councilSame(after, want) {
+			t.Errorf("%d: %+v %v, not %+v", round, after, ok, want)
+		}
+	}
+	for _, promised := range []int{99984, 99985, 99991} {
+		c := councilWith(councilNew(), func(c *impl.SynCouncil) { c.Voters[1].Promised, c.Voters[2].Promised = promised, promised })
+		after, ok := impl.SynCalm(c, 0, 5, voteCmd(1))
+		want := councilWith(c, func(c *impl.SynCouncil) {
+			c.Rounds[0], c.Voters[0].Promised = 12498, 8
+			c.Seekers[0] = impl.SynSeeker{Slot: 5, Ballot: 8, Phase: 1, Mine: voteCmd(1), Yes: []int{0}}
+		})
+		if ok || !councilSame(after, want) {
+			t.Errorf("%d: %+v %v, not %+v", promised, after, ok, want)
+		}
+	}
 }
 
 // P21: a denial of a round that is none raises nothing: it is tried four times, each in the next round.

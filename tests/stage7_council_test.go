@@ -227,16 +227,56 @@ func TestBeginsOfEachMember(t *testing.T) {
 	}
 }
 
-// The greatest round stays: the member seeks by its ballot of that round.
+// In the last round there is no other one behind: a member begins no more, whatever else it does, and the others do as before.
 func TestBeginsInTheLastRound(t *testing.T) {
 	for who := range 3 {
-		some := councilWith(councilSome(), func(c *impl.SynCouncil) { c.Rounds[who] = 12498 })
-		for range 3 {
-			councilBecomes(t, "last round", some, impl.SynEvent{Kind: 1, Who: who, Slot: 60, Cmd: seekMine}, func(c *impl.SynCouncil) {
-				c.Seekers[who] = impl.SynSeeker{Slot: 60, Ballot: 99984 + who, Phase: 1, Mine: seekMine}
-				c.Radio = append(c.Radio, seekToAll(1, who, 99984+who, 60, impl.Cmd{})...)
+		begins := impl.SynEvent{Kind: 1, Who: who, Slot: 60, Cmd: seekMine}
+		last := func(c impl.SynCouncil) impl.SynCouncil {
+			return councilWith(c, func(c *impl.SynCouncil) { c.Rounds[who] = 12498 })
+		}
+		forgot := councilRun(last(councilSome()), impl.SynEvent{Kind: 4, Who: who})
+		for _, some := range []impl.SynCouncil{last(councilNew()), last(councilSome()), forgot, last(councilFull(councilSome(), 60)), last(councilFullOfTold(councilSome(), 240))} {
+			if after, ok := impl.SynDo(some, begins); ok || !councilSame(after, some) {
+				t.Errorf("%d begins in the last round: %v %+v", who, ok, after)
+			}
+			if after := councilRun(some, begins, begins, begins); !councilSame(after, some) {
+				t.Errorf("%d begins in the last round: %+v", who, after)
+			}
+		}
+		for other := range 3 {
+			if begins.Who = other; other == who {
+				continue
+			}
+			councilBecomes(t, "another one", last(councilNew()), begins, func(c *impl.SynCouncil) {
+				c.Rounds[other] = 1
+				c.Seekers[other] = impl.SynSeeker{Slot: 60, Ballot: 8 + other, Phase: 1, Mine: seekMine}
+				c.Radio = seekToAll(1, other, 8+other, 60, impl.Cmd{})
 			})
-			some = councilRun(some, impl.SynEvent{Kind: 1, Who: who, Slot: 60, Cmd: seekMine})
+		}
+	}
+}
+
+// The last round can be begun, once; by whichever way a member comes to it, it begins none behind it.
+func TestBeginsUpToTheLastRound(t *testing.T) {
+	for who := range 3 {
+		begins := impl.SynEvent{Kind: 1, Who: who, Slot: 1, Cmd: seekMine}
+		begun := councilWith(councilNew(), func(c *impl.SynCouncil) { c.Rounds[who] = 12496 })
+		for round := 12497; round <= 12498; round++ {
+			after, ok := impl.SynDo(begun, begins)
+			if !ok || after.Rounds[who] != round || after.Seekers[who].Ballot != 8*round+who || len(after.Radio) != len(begun.Radio)+3 {
+				t.Fatalf("%d begins the round %d: %v %+v", who, round, ok, after)
+			}
+			begun = after
+		}
+		denied := councilWith(councilNew(), func(c *impl.SynCouncil) { c.Radio = []impl.Word{councilSay(5, 1, who, 17, 1, 99984)} })
+		denied = councilRun(denied, impl.SynEvent{Kind: 2})
+		if denied.Rounds[who] != 12498 {
+			t.Fatalf("a denial raises to %v", denied.Rounds)
+		}
+		for _, some := range []impl.SynCouncil{begun, denied} {
+			if after, ok := impl.SynDo(some, begins); ok || !councilSame(after, some) {
+				t.Errorf("%d begins behind the last round: %v %+v", who, ok, after)
+			}
 		}
 	}
 }
