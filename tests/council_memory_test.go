@@ -151,6 +151,11 @@ func councilApart(t *testing.T, name string, councils ...impl.SynCouncil) {
 	for _, c := range councils {
 		all = append(all, councilSpans(c)...)
 	}
+	spansApart(t, name, all)
+}
+
+func spansApart(t *testing.T, name string, all []councilSpan) {
+	t.Helper()
 	slices.SortFunc(all, func(a, b councilSpan) int { return cmp.Compare(a.start, b.start) })
 	for place := 1; place < len(all); place++ {
 		if all[place].start < all[place-1].end {
